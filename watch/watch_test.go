@@ -153,3 +153,31 @@ func TestSound(t *testing.T) {
 		t.Error(got)
 	}
 }
+
+func TestAWorldThatIsNotSound(t *testing.T) {
+	w, err := world.New(api.Config{Room: 10, Wait: 5, Window: 7, Keep: 8, First: 2, Most: 8, Quota: 8000})
+	if err != api.OK {
+		t.Fatal(err)
+	}
+	run := func(e, task string) api.Message {
+		return api.Message{Kind: api.Run, F: "f", E: e, Items: []api.Item{{T: task, Need: 1}}}
+	}
+	hello := func(e string) api.Message { return api.Message{Kind: api.Hello, F: "f", E: e, N: 1} }
+	w.Tell(api.Message{Kind: api.Welcome})
+	w.Tell(run("e", "a"))
+	old := w.Agent()
+	w.Crash(0, -1)
+	w.Tell(api.Message{Kind: api.Welcome})
+	w.Tell(run("x", "b"))
+	w.Tell(hello("x"))
+	if !watch.Sound(w) {
+		t.Error("it is not sound")
+	}
+	// The agent of a life that has ended gives the task away once more.
+	old.Do(run("e", "b"))
+	w.Crash(0, -1)
+	w.Tell(hello("e"))
+	if watch.Sound(w) {
+		t.Error("a task was handed to two runs")
+	}
+}
