@@ -646,6 +646,20 @@ func TestACrashInATick(t *testing.T) {
 	r.phase("x", 1, run.Waiting)
 }
 
+func TestACrashAtTheFirstOfSomeLateRuns(t *testing.T) {
+	r := start(t, config)
+	for _, e := range []string{"e", "x", "y"} {
+		r.says(tasks(e, "of"+e), "Start f "+e+" n1")
+	}
+	r.silent(4)
+	r.d.Fuse(1)
+	got, err := r.a.Tick(0)
+	r.same("the tick", got, []string{"Destroy f e n1"})
+	if err != api.ErrCrash || !r.a.Dead() {
+		t.Error(err)
+	}
+}
+
 // P19.4: Run
 
 func TestRunOfANewRun(t *testing.T) {
@@ -786,6 +800,18 @@ func TestRunWithoutRoomOnTheDisk(t *testing.T) {
 	r = live(t, "a")
 	r.d.Append("x", make([]byte, r.d.Room()-api.Spare-entry+1))
 	r.fails(tasks("e", "b"), api.ErrFull)
+}
+
+func TestACrashAtASandboxThatIsDroppedAgain(t *testing.T) {
+	r := start(t, config)
+	r.d.Append("x", make([]byte, r.d.Room()-api.Spare-64))
+	r.d.Fuse(3)
+	r.fails(tasks("e", "a"), api.ErrCrash)
+	r.d.Remove("x")
+	r.crash(0)
+	if len(r.a.Rows()) != 0 || len(r.d.List("box/")) != 0 {
+		t.Error(r.text())
+	}
 }
 
 func TestACrashInRun(t *testing.T) {

@@ -153,6 +153,37 @@ func TestNoText(t *testing.T) {
 	}
 }
 
+func TestManyThingsBehindEachOther(t *testing.T) {
+	var b []byte
+	for _, x := range numbers {
+		for _, y := range numbers {
+			b = append(b, x.b...)
+			b = append(b, code.Text("ab")...)
+			b = append(b, y.b...)
+		}
+	}
+	r := code.New(b)
+	for _, x := range numbers {
+		for _, y := range numbers {
+			if n, s, m := r.Number(), r.Text(), r.Number(); n != x.n || s != "ab" || m != y.n || r.Bad() {
+				t.Fatalf("%d, %q, %d, not %d, %d", n, s, m, x.n, y.n)
+			}
+		}
+	}
+	if !r.Done() {
+		t.Error("not all was read")
+	}
+	for _, l := range [][]byte{{0, 0}, {0, 0, 0}, {0, 0, 0x80, 1}, {5, 0, 0}, {0xac, 2, 0}} {
+		r := code.New(l)
+		for !r.Done() && !r.Bad() {
+			r.Number()
+		}
+		if r.Bad() {
+			t.Errorf("% x", l)
+		}
+	}
+}
+
 func TestAnEmptyReaderIsDone(t *testing.T) {
 	if r := code.New(nil); !r.Done() || r.Bad() {
 		t.Error("nothing is there to be read")

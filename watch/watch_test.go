@@ -33,6 +33,7 @@ var others = []api.Message{
 	{Kind: api.Register, Epoch: 1}, {Kind: api.Answer, F: "f", T: "a", State: api.Lost}, {Kind: api.Start, F: "f", E: "e", N: 1},
 	{Kind: api.End, F: "f", E: "e", N: 1, T: "a"}, {Kind: api.Stop, F: "f", E: "e", N: 1}, {Kind: api.Destroy, F: "f", E: "e", N: 1},
 	{Kind: api.Ack, F: "f", T: "a", Number: 7, Epoch: 1}, {Kind: api.Report, F: "f", E: "e", N: 1, T: "a", State: 2},
+	{Kind: api.Ask, F: "f", Items: []api.Item{{T: "a"}}}, {Kind: api.Run, F: "f", E: "z", Items: []api.Item{{T: "a", Need: 9}}},
 }
 
 func TestSent(t *testing.T) {
@@ -103,6 +104,7 @@ func TestLaunches(t *testing.T) {
 		{others, true},
 		{[]api.Message{good}, true},
 		{[]api.Message{good, good, others[0], good}, true},
+		{[]api.Message{others[8], good, others[9], good}, true},
 		{[]api.Message{good, launch(b, "e", 2, 1), launch(c, "x", 7, 5), good, launch(c, "x", 7, 5)}, true},
 		{[]api.Message{good, launch(a, "x", 1, 2+3i)}, false},
 		{[]api.Message{good, launch(a, "e", 2, 2+3i)}, false},
