@@ -5,7 +5,6 @@ import (
 	"hostler/api"
 )
 
-// Right reports whether s is a name.
 func Right(s string) bool {
 	if len(s) < 1 || len(s) > api.MaxName {
 		return false
@@ -22,12 +21,10 @@ func plain(c byte) bool {
 	return c >= 'a' && c <= 'z' || c >= '0' && c <= '9'
 }
 
-// Key reports whether both parts of k are names.
 func Key(k api.Key) bool {
 	return Right(k.F) && Right(k.T)
 }
 
-// Less reports whether a comes before b.
 func Less(a, b api.Key) bool {
 	if a.F != b.F {
 		return a.F < b.F
@@ -35,7 +32,6 @@ func Less(a, b api.Key) bool {
 	return a.T < b.T
 }
 
-// All reports whether all of l are names, and no two are equal.
 func All(l ...string) bool {
 	seen := map[string]struct{}{}
 	for _, s := range l {
